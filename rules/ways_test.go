@@ -1,0 +1,46 @@
+package rules
+
+import (
+	"go/ast"
+	"go/token"
+	"testing"
+)
+
+// The layers that are built, with the ways that the section 'Ways' of their chapters asks for.
+var ways = map[string][]string{
+	"crc":  {"goto"},
+	"pack": {"goto"},
+}
+
+// has tells of each way whether a piece of the program is one of it.
+var has = map[string]func(n ast.Node) bool{
+	"goto": func(n ast.Node) bool {
+		b, ok := n.(*ast.BranchStmt)
+		return ok && b.Tok == token.GOTO
+	},
+}
+
+// TestWays: each layer has the ways in it that its chapter asks for.
+func TestWays(t *testing.T) {
+	found := map[string]map[string]bool{}
+	for _, s := range sources(t) {
+		if found[s.pack] == nil {
+			found[s.pack] = map[string]bool{}
+		}
+		ast.Inspect(s.file, func(n ast.Node) bool {
+			for way, is := range has {
+				if is(n) {
+					found[s.pack][way] = true
+				}
+			}
+			return true
+		})
+	}
+	for pack, l := range ways {
+		for _, way := range l {
+			if !found[pack][way] {
+				t.Errorf("%s has no %s", pack, way)
+			}
+		}
+	}
+}
