@@ -10,6 +10,7 @@ import (
 var ways = map[string][]string{
 	"crc":  {"goto"},
 	"pack": {"goto"},
+	"disk": {"goto"},
 }
 
 // has tells of each way whether a piece of the program is one of it.
