@@ -11,6 +11,7 @@ var ways = map[string][]string{
 	"crc":  {"goto"},
 	"pack": {"goto"},
 	"disk": {"goto"},
+	"wal":  {"goto"},
 }
 
 // has tells of each way whether a piece of the program is one of it.
