@@ -3,19 +3,33 @@ package rules
 import (
 	"go/ast"
 	"go/token"
+	"slices"
 	"testing"
 )
 
 // The layers that are built, with the ways that the section 'Ways' of their chapters asks for.
 var ways = map[string][]string{
-	"crc":  {"goto"},
-	"pack": {"goto"},
-	"disk": {"goto"},
-	"wal":  {"goto"},
+	"crc":   {"goto"},
+	"pack":  {"goto"},
+	"disk":  {"goto"},
+	"wal":   {"goto"},
+	"place": {"complex", "goto"},
 }
 
 // has tells of each way whether a piece of the program is one of it.
 var has = map[string]func(n ast.Node) bool{
+	// Not the type alone, which a call that answers nothing has too.
+	"complex": func(n ast.Node) bool {
+		if l, ok := n.(*ast.BasicLit); ok {
+			return l.Kind == token.IMAG
+		}
+		c, ok := n.(*ast.CallExpr)
+		if !ok {
+			return false
+		}
+		f, ok := c.Fun.(*ast.Ident)
+		return ok && slices.Contains([]string{"complex", "real", "imag"}, f.Name)
+	},
 	"goto": func(n ast.Node) bool {
 		b, ok := n.(*ast.BranchStmt)
 		return ok && b.Tok == token.GOTO
