@@ -9,11 +9,12 @@ import (
 
 // The layers that are built, with the ways that the section 'Ways' of their chapters asks for.
 var ways = map[string][]string{
-	"crc":   {"goto"},
-	"pack":  {"goto"},
-	"disk":  {"goto"},
-	"wal":   {"goto"},
-	"place": {"complex", "goto"},
+	"crc":    {"goto"},
+	"pack":   {"goto"},
+	"disk":   {"goto"},
+	"wal":    {"goto"},
+	"place":  {"complex", "goto"},
+	"ballot": {"goto", "struct-compared"},
 }
 
 // has tells of each way whether a piece of the program is one of it.
@@ -34,6 +35,23 @@ var has = map[string]func(n ast.Node) bool{
 		b, ok := n.(*ast.BranchStmt)
 		return ok && b.Tok == token.GOTO
 	},
+	// By a literal of a named type alone, as the text does not show what a variable is.
+	"struct-compared": func(n ast.Node) bool {
+		b, ok := n.(*ast.BinaryExpr)
+		return ok && (b.Op == token.EQL || b.Op == token.NEQ) && (isNamedLiteral(b.X) || isNamedLiteral(b.Y))
+	},
+}
+
+func isNamedLiteral(e ast.Expr) bool {
+	l, ok := ast.Unparen(e).(*ast.CompositeLit)
+	if !ok {
+		return false
+	}
+	switch l.Type.(type) {
+	case *ast.Ident, *ast.SelectorExpr:
+		return true
+	}
+	return false
 }
 
 // TestWays: each layer has the ways in it that its chapter asks for.
