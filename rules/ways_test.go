@@ -15,6 +15,7 @@ var ways = map[string][]string{
 	"wal":    {"goto"},
 	"place":  {"complex", "goto"},
 	"ballot": {"goto", "struct-compared"},
+	"cmd":    {"goto", "iota"},
 }
 
 // has tells of each way whether a piece of the program is one of it.
@@ -34,6 +35,10 @@ var has = map[string]func(n ast.Node) bool{
 	"goto": func(n ast.Node) bool {
 		b, ok := n.(*ast.BranchStmt)
 		return ok && b.Tok == token.GOTO
+	},
+	"iota": func(n ast.Node) bool {
+		i, ok := n.(*ast.Ident)
+		return ok && i.Name == "iota"
 	},
 	// By a literal of a named type alone, as the text does not show what a variable is.
 	"struct-compared": func(n ast.Node) bool {
