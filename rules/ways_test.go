@@ -16,6 +16,7 @@ var ways = map[string][]string{
 	"place":  {"complex", "goto"},
 	"ballot": {"goto", "struct-compared"},
 	"cmd":    {"goto", "iota"},
+	"deps":   {"goto"},
 }
 
 // has tells of each way whether a piece of the program is one of it.
