@@ -17,6 +17,7 @@ var ways = map[string][]string{
 	"ballot": {"goto", "struct-compared"},
 	"cmd":    {"goto", "iota"},
 	"deps":   {"goto"},
+	"attr":   {"goto"},
 }
 
 // has tells of each way whether a piece of the program is one of it.
