@@ -18,6 +18,7 @@ var ways = map[string][]string{
 	"cmd":    {"goto", "iota"},
 	"deps":   {"goto"},
 	"attr":   {"goto"},
+	"inst":   {"goto", "iota"},
 }
 
 // has tells of each way whether a piece of the program is one of it.
